@@ -83,6 +83,19 @@ class KeptWordsTest(unittest.TestCase):
             with self.subTest(word=word):
                 self.assertIs(is_name(word), False)
 
+    def test_no_other_word_is_kept(self):
+        for text in (
+            "word name kind variable statements pattern rule domains cells tasks systems texts go turn jump branch "
+            "goes calls ends send hear crash resume mark value frame ground outside stranger reads chosen while for "
+            "def class import none true false and or not is in then to at off one two"
+        ).split():
+            self.assertIs(is_name(text), True, text)
+        for first in LETTERS:
+            for second in LETTERS + FIGURES:
+                for third in LETTERS + FIGURES:
+                    for text in (first + second, first + second + third):
+                        self.assertIs(is_name(text), text not in KEPT, text)
+
     def test_a_kept_word_with_a_letter_more(self):
         for word in KEPT:
             for letter in LETTERS:
