@@ -32,8 +32,18 @@ def fits(allowed, word):
 
 def oracle(text):
     """The number of the word at which the text is refused, or None."""
+    return refused_by(a_system(Known()), text)
+
+
+def edit_oracle(system_text, text):
+    """The number of the word at which the edit of this system is refused, or None."""
+    known = Known()
+    assert refused_by(a_system(known), system_text) is None
+    return refused_by(an_edit(known), text)
+
+
+def refused_by(reading, text):
     words = re.findall("[^ ]+", text)
-    reading = a_system()
     allowed = next(reading)
     for at, word in enumerate(words):
         if not fits(allowed, word):
@@ -90,8 +100,19 @@ PARTS = [(("domain",), 4), (("channel",), 6), (("person",), 3), (("cell",), 4), 
 LATER = [("yes", 6), ("policy", 3), ("start", 4)]
 
 
-def a_system():
-    known = Known()
+def an_edit(known):
+    yield one_of("edit")
+    given = []
+    while True:
+        word = yield one_of("end", *(["body"] if len(given) < 3 else []))
+        if word == "end":
+            return
+        name = yield one_of(*[name for name in known.procedures if name not in given])
+        given.append(name)
+        yield from a_body(known, *known.procedures[name])
+
+
+def a_system(known):
     yield one_of("system")
     word = yield one_of(*openers(known, 0, 0))
     at, many = 0, 0
