@@ -10,28 +10,26 @@ MOST_BODIES = 3
 def edited(system, text):
     """The system with the bodies of this edit in the place of the old ones; Misfit if the edit does not fit it."""
     given = _read_edit(system, text)
-    names = system.parts.procedure_names()
-    bodies = [given.get(name, body) for name, body in zip(names, system.bodies)]
+    bodies = [given.get(number, body) for number, body in enumerate(system.bodies)]
     return System(system.parts, bodies, system.yes_lines, system.policies, system.starts)
 
 
 def touches(system, text, paper):
     """True if something in the paper is of a procedure whose body the edit gives; Misfit if it does not fit."""
     given = _read_edit(system, text)
-    names = system.parts.procedure_names()
-    return any([names[procedure] in given for procedure in _procedures_of(paper)])
+    return any([procedure in given for procedure in _procedures_of(paper)])
 
 
 def _read_edit(system, text):
-    """The bodies that the edit gives, by the names of their procedures."""
+    """The bodies that the edit gives, by the numbers of their procedures."""
     words = Words(text)
     words.need("edit")
+    names = system.parts.procedure_names()
     found = {}
     while len(found) < MOST_BODIES and words.here() == "body":
         words.need("body")
-        left = [procedure for procedure in system.parts.procedures if procedure.name not in found]
-        procedure = left[words.number([other.name for other in left])]
-        found[procedure.name] = read_body(words, system.parts, procedure)
+        number = names.index(words.pick([name for at, name in enumerate(names) if at not in found]))
+        found[number] = read_body(words, system.parts, system.parts.procedures[number])
     words.need("end")
     words.finish()
     return found

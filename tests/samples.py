@@ -69,3 +69,11 @@ def check_equal(test, one, two):
     test.assertEqual(one.points(), two.points())
     for name, _, _, _ in one.told()[5]:
         test.assertEqual(one.code(name), two.code(name))
+
+
+def state(host):
+    """All that a host tells."""
+    return (
+        host.system.text(), host.silent, host.at_rest(), host.ground(), host.waiting(), host.running(), host.uses(),
+        host.choices(), host.journal(),
+    )

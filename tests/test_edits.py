@@ -23,7 +23,9 @@ BODIES = (
     "body u x d begin if x a do o x with end else do q with end end end",
     "body v begin ask p t end end",
 )
-TAIL = "yes p t end policy allow q from w m end 1 allow o any anyone always end policy end start t end start u b end end"
+TAIL = (
+    "yes p t end policy allow q from w m end 1 allow o any anyone always end policy end start t end start u b end end"
+)
 TEXT = HEAD + " ".join(BODIES) + " " + TAIL
 
 # Other bodies for the same heads: with further variables, other ones or none, and calls upwards and downwards.
@@ -304,6 +306,10 @@ class TouchesTest(unittest.TestCase):
 
     def test_lines_and_nodes(self):
         self.check(([self.line(0, 1), self.line(0, 0)], [self.node(2), self.node(2, 3)]), (0, 1, 2, 3))
+
+    def test_procedures_that_there_are_not(self):
+        self.check(([self.line(5, 6), self.line(-1, -5), self.line(100, 100)], [self.node(5, 7)]), ())
+        self.check(([self.line(0, 5, -2)], [self.node(-1, 3)]), (0, 3))
 
     def test_an_edit_that_does_not_fit(self):
         for paper in (([], []), ([self.line(0, 0)], []), ([], [self.node(2)]), ([self.line(9, 9)], [self.node(9)])):

@@ -1,8 +1,11 @@
-"""Points [13], [15], [20], [21], [35] and [37]: nobodyspeaks/hosts.py. Channel m is the mark 1, channel w the mark 2."""
+"""Points [13], [15], [20], [21], [35] and [37]: nobodyspeaks/hosts.py.
+
+Channel m is the mark 1, channel w the mark 2.
+"""
 
 import unittest
 
-from samples import EMPTY, check_equal
+from samples import EMPTY, check_equal, state
 
 from nobodyspeaks import hosts
 from nobodyspeaks.errors import Busy, Misfit, Missing, Refused, SpeakError
@@ -11,7 +14,7 @@ from nobodyspeaks.policies import first_ground
 from nobodyspeaks.reading import read_system
 
 # f (0) takes a text for a, b or c: for a it answers, for b it calls itself, for c it uses q and comes to its end.
-# g (1) writes a text, keeps it, and answers it. t (2) reads, calls f, and posts or asks. u (3) uses o. v (4) does nothing.
+# g (1) writes a text, keeps it, and answers it. t (2) reads, calls f, and posts or asks. u (3) uses o. v (4) keeps c.
 TEXT = (
     "system domain d a b c end domain e y n end channel m channel w person p person r cell i d cell j text "
     "tool o d end tool q end "
@@ -29,14 +32,6 @@ TEXT = (
     "start t end start v b n end start v a y end end"
 )
 V_FRAME = (4, 0, ((1, 0), (1, 0)), 0)
-
-
-def state(host):
-    """All that a host tells."""
-    return (
-        host.system.text(), host.silent, host.at_rest(), host.ground(), host.waiting(), host.running(), host.uses(),
-        host.choices(), host.journal(),
-    )
 
 
 def go(*numbers):
@@ -201,7 +196,8 @@ class ChoicesTest(HostsTest):
 
     def test_any_other_tuple(self):
         row = [
-            ("turn", 0), ("turn", 1), ("turn", None), ("turn", "turn"), ("take",), ("go",), ("take", 0, 0), ("go", 0, 0),
+            ("turn", 0), ("turn", 1), ("turn", None), ("turn", "turn"), ("take",), ("go",), ("take", 0, 0),
+            ("go", 0, 0),
             ("take", "0"), ("go", "0"), ("take", None), ("go", None), ("take", (0,)), ("go", [0]), ("take", {}),
             ("take", b"0"), ("stay",), ("stay", 0), ("rest",), ("", 0), ("TAKE", 0), ("Go", 0), ("send",), ("hear",),
             ("crash",), ("resume",), ("edit", "edit end"), ("edit",), ("edit", "edit end", 0), ("edit", "no"),
@@ -353,7 +349,8 @@ class RunTest(HostsTest):
 
     def test_turns_keep_cells_and_counts(self):
         system = read_system(
-            "system domain d a b end cell i d tool q end task t end body t x d begin set x b keep i x do q with end end "
+            "system domain d a b end cell i d tool q end task t end "
+            "body t x d begin set x b keep i x do q with end end "
             "policy allow q anyone 2 end policy deny q anyone 1 allow q anyone always end policy allow q anyone 1 end "
             "start t end start t end start t end start t end end"
         )
@@ -374,7 +371,8 @@ class RunTest(HostsTest):
 
     def test_tasks_wait_behind_all_others(self):
         system = read_system(
-            "system domain d a b c end task t x d end body t x d y d begin set y b post t y end set y c post t y end end "
+            "system domain d a b c end task t x d end "
+            "body t x d y d begin set y b post t y end set y c post t y end end "
             "start t a end start t a end end"
         )
         host = Host(system, False)
