@@ -3,9 +3,12 @@
 Channel m is the mark 1, channel w the mark 2.
 """
 
+import random
 import unittest
 
+from chance import Maker
 from samples import EMPTY, check_equal, state
+from speaker import World
 
 from nobodyspeaks import hosts
 from nobodyspeaks.errors import Busy, Misfit, Missing, Refused, SpeakError
@@ -422,6 +425,32 @@ class RunTest(HostsTest):
         host.play(go(0))
         self.assertEqual(host.waiting(), [])
         self.assertIs(host.at_rest(), True)
+
+
+class ChanceTest(unittest.TestCase):
+    """Runs of systems made by chance, beside runs made straight from the statements (tests/speaker.py)."""
+
+    def test_runs(self):
+        used = posted = turned = 0
+        for seed in range(150):
+            system = read_system(Maker(seed, 3 + seed % 6).text())
+            silent = seed % 3 == 0
+            host, world = Host(system, silent), World(system, silent)
+            chance = random.Random(seed)
+            ahead = len(host.waiting())
+            for _ in range(150):
+                self.assertEqual(host.choices(), world.choices())
+                uses = [use[:-1] for use in host.uses()]
+                self.assertEqual((host.ground(), host.waiting(), uses), world.told())
+                if not host.choices():
+                    break
+                choice = chance.choice(host.choices())
+                turned += choice == ("turn",)
+                self.assertIs(host.choose(choice), True)
+                world.choose(choice)
+            used += len(host.uses())
+            posted += max(0, len(host.waiting()) - ahead)
+        self.assertGreater(min(used, posted, turned), 50)
 
 
 class PlayTest(HostsTest):

@@ -12,9 +12,10 @@ from nobodyspeaks import errors
 from nobodyspeaks.covers import judge_never, make_cover
 from nobodyspeaks.edits import edited, touches
 from nobodyspeaks.hosts import Host, past, replay
-from nobodyspeaks.lines import first_line, hits
+from nobodyspeaks.lines import close, first_line, hits
 from nobodyspeaks.papers import judge_use
 from nobodyspeaks.reading import read_system
+from nobodyspeaks.steps import begin
 from nobodyspeaks.strangers import can, strangers
 
 Q = (0, None)
@@ -73,6 +74,47 @@ class WholeTest(unittest.TestCase):
                     states.append(state(host))
             for many, expected in enumerate(states):
                 self.assertEqual(state(past(host, many)), expected)
+
+    def test_lines_are_what_runs_come_to(self):
+        whole = 0
+        for seed in range(120):
+            silent = seed % 2 == 0
+            host = Host(read_system(Maker(seed, 3 + seed % 5).text()), silent)
+            for place, (procedure, arguments, mark) in enumerate(host.waiting()):
+                first = first_line(begin(host.system, procedure, arguments, mark), host.ground())
+                lines = close(host.system, Q, silent, [first])
+                if lines is not None:
+                    told = {(line[2:5], line[5]) for line in lines if line[:2] == first[:2]}
+                    seen, all_seen = self.come_to_by_task(host, place, 1500)
+                    self.assertLessEqual(seen, told)
+                    if all_seen:
+                        self.assertEqual(seen, told)
+                        whole += 1
+        self.assertGreater(whole, 100)
+
+    def come_to_by_task(self, host, place, most):
+        """What the frame of a task that waits comes to, as lines tell it, and True if that is all."""
+        begun = host.copy_of()
+        begun.choose(("take", place))
+        ahead = len(begun.waiting())
+        states = [(begun, False)]
+        known = {}
+        for one, done in states:
+            if one.at_rest():
+                continue
+            frames = one.running()
+            key = (tuple(frames), one.ground(), tuple(one.waiting()), done)
+            if key not in known:
+                if len(known) == most:
+                    break
+                known[key] = (frames, ((frames[0], one.ground(), tuple(one.waiting()[ahead:])), done))
+                for choice in one.choices():
+                    other = one.copy_of()
+                    other.choose(choice)
+                    uses = other.uses()[len(one.uses()):]
+                    states.append((other, done or any(hits(use, Q) for use in uses)))
+        # While a function runs, the lines of the task stand at the call.
+        return {told for frames, told in known.values() if len(frames) == 1}, len(known) < most
 
     def test_papers_that_are_taken_are_true(self):
         taken = 0
