@@ -118,7 +118,8 @@ class World:
                 self.running = None
 
     def told(self):
-        ground = (tuple(told_value(value) for value in self.cells), self.policy, tuple(tuple(row) for row in self.counts))
+        cells = tuple(told_value(value) for value in self.cells)
+        ground = (cells, self.policy, tuple(tuple(row) for row in self.counts))
         waiting = [
             (self.names.index(name), tuple(told_value(value) for value in arguments), number_of(mark))
             for name, arguments, mark in self.row
